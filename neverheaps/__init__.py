@@ -1,0 +1,1 @@
+"""Neverheaps: works whose hands come and go, and whose heaps stay small."""

@@ -1,0 +1,175 @@
+"""Works, senders and runs, read from the texts that show them."""
+
+from neverheaps.errors import NoText, Wrong
+from neverheaps.forms import MOST_HANDS, MOST_KINDS, MOST_RECIPES
+from neverheaps.forms import is_name, is_recipe, is_run, is_sender, is_works
+
+MOST_DIGITS = 10
+
+
+def _is_number(word):
+    """Whether a word is an integer from 0 on as Python shows it, not too long."""
+    if not 1 <= len(word) <= MOST_DIGITS or not all(["0" <= sign <= "9" for sign in word]):
+        return False
+    return word == "0" or word[0] != "0"
+
+
+class Line:
+    """The words of a line, read one after the other; NoText where one is bad."""
+
+    def __init__(self, index, words):
+        self.index = index
+        self.words = words
+        self.at = 0
+
+    def is_read(self):
+        """Whether no word is left."""
+        return self.at == len(self.words)
+
+    def check(self, fine):
+        """Refuse the line unless all is fine."""
+        if not fine:
+            raise NoText(self.index)
+
+    def word(self):
+        """The next word, of any kind."""
+        self.check(not self.is_read())
+        self.at += 1
+        return self.words[self.at - 1]
+
+    def keyword(self, word):
+        """Read this very word."""
+        self.check(self.word() == word)
+
+    def number(self):
+        """Read a number."""
+        word = self.word()
+        self.check(_is_number(word))
+        return int(word)
+
+    def names(self):
+        """Read all words that are left: different names."""
+        found = []
+        while not self.is_read():
+            word = self.word()
+            self.check(is_name(word) and word not in found)
+            found.append(word)
+        return tuple(found)
+
+    def amounts(self, names):
+        """Read couples of a number and a name, as long as numbers come."""
+        found = [0] * len(names)
+        # A name may be any word, so only a number tells that a couple follows.
+        while not self.is_read() and _is_number(self.words[self.at]):
+            many, name = self.number(), self.word()
+            self.check(many > 0 and name in names and found[names.index(name)] == 0)
+            found[names.index(name)] = many
+        return tuple(found)
+
+
+def _words_of(line):
+    """The words of a line without its remark."""
+    return [word for word in line.partition("#")[0].split(" ") if word != ""]
+
+
+def _lines_of(text):
+    """The lines in which something is left, and behind them one without words for the end of the text."""
+    lines = text.split("\n")
+    found = [Line(index, _words_of(line)) for index, line in enumerate(lines)]
+    return [line for line in found if not line.is_read()] + [Line(len(lines), [])]
+
+
+def _read_kinds(line):
+    """The kinds of a works."""
+    line.keyword("kinds")
+    kinds = line.names()
+    line.check(1 <= len(kinds) <= MOST_KINDS)
+    return kinds
+
+
+def _read_hands(line, kinds):
+    """The hands of a works with these kinds."""
+    line.keyword("hands")
+    hands = line.names()
+    line.check(len(hands) <= MOST_HANDS and not any([hand in kinds for hand in hands]))
+    return hands
+
+
+def _read_recipe(line, works):
+    """A further recipe of a works."""
+    line.keyword("recipe")
+    takes = line.amounts(works[0])
+    line.keyword("to")
+    puts = line.amounts(works[0])
+    hand = None
+    if not line.is_read():
+        line.keyword("by")
+        hand = line.word()
+    recipe = (takes, puts, hand)
+    line.check(line.is_read() and len(works[2]) < MOST_RECIPES and is_recipe(works, recipe))
+    return recipe
+
+
+def read_works(text):
+    """The works that a text shows."""
+    if not isinstance(text, str):
+        raise Wrong(0)
+    lines = _lines_of(text)
+    kinds = _read_kinds(lines[0])
+    hands = _read_hands(lines[1], kinds)
+    recipes = ()
+    for line in lines[2:-1]:
+        recipes = recipes + (_read_recipe(line, (kinds, hands, recipes)),)
+    return kinds, hands, recipes
+
+
+def _read_places(line):
+    """The number of places of a sender."""
+    line.keyword("places")
+    places = line.number()
+    line.check(places >= 1 and line.is_read())
+    return places
+
+
+def _read_arrow(line, works, places):
+    """An arrow of a sender with so many places."""
+    line.keyword("arrow")
+    source, target = line.number(), line.number()
+    line.check(source < places and target < places)
+    amounts = line.amounts(works[0])
+    line.keyword("with")
+    crew = line.amounts(works[1])
+    line.check(line.is_read())
+    return source, target, amounts, crew
+
+
+def read_sender(works, text):
+    """The sender of the works that a text shows."""
+    if not is_works(works):
+        raise Wrong(0)
+    if not isinstance(text, str):
+        raise Wrong(1)
+    lines = _lines_of(text)
+    places = _read_places(lines[0])
+    arrows = [_read_arrow(line, works, places) for line in lines[1:-1]]
+    return places, tuple(arrows)
+
+
+def read_run(works, sender, text):
+    """The run of the sender that a text shows."""
+    if not is_works(works):
+        raise Wrong(0)
+    if not is_sender(works, sender):
+        raise Wrong(1)
+    if not isinstance(text, str):
+        raise Wrong(2)
+    lines = _lines_of(text)
+    first = lines[0]
+    first.keyword("run")
+    run = []
+    while not first.is_read():
+        run.append(first.number())
+    first.check(is_run(sender, tuple(run)))
+    for line in lines[1:-1]:
+        line.check(False)
+    return tuple(run)

@@ -1,0 +1,88 @@
+"""The interface: each name stands in its file, with its arguments, and is defined there."""
+
+import ast
+import importlib
+import inspect
+import pathlib
+import unittest
+
+PACKAGE = pathlib.Path(__file__).resolve().parent.parent / "neverheaps"
+
+FUNCTIONS = {
+    "forms": (
+        "is_integer(thing), is_name(thing), is_fraction(thing), is_works(thing), is_amounts(works, thing), is_crew(works, thing), "
+        "is_recipe(works, thing), is_deeds(works, thing), is_sender(works, thing), is_run(sender, thing), is_ring(sender, thing), "
+        "is_play(works, sender, run, thing), is_tariff(works, thing), is_shares(works, thing)"
+    ),
+    "works": (
+        "kind_place(works, name), hand_place(works, name), raw_kinds(works), levels(works), renamed_works(works, names), "
+        "with_recipe(works, recipe), without_recipes(works, indexes), with_hand(works, name), led_sender(sender, many)"
+    ),
+    "texts": "show_works(works), show_sender(works, sender), show_run(run)",
+    "reader": "read_works(text), read_sender(works, text), read_run(works, sender, text)",
+    "play": (
+        "after(works, heaps, crew, deeds), can_do(works, heaps, crew, deeds), keeps_rooms(works, sender, run, play, rooms), "
+        "played(works, sender, run, play), sums_of(works, sender, run, play)"
+    ),
+    "orders": "deeds_by(works, order, heaps, crew), order_play(works, sender, order, run), is_order(works, thing)",
+    "ends": "ends_of(works, heaps, crew), low_ends(works, heaps, crew)",
+    "spans": (
+        "shares_for(columns, goal), row_against(columns, goal), least_shares(columns, goal, costs), "
+        "dearest_row(columns, goal, costs), edges_of(rows, size)"
+    ),
+    "tariffs": "worth(tariff, amounts), pay(tariff, crew), is_fair(works, tariff), is_book(works, thing), book_of(works)",
+    "ways": (
+        "can_work_off(works, amounts, crew), tariff_against(works, amounts, crew), "
+        "is_worked_off(works, amounts, crew, thing), is_way(works, thing), ways_of(works)"
+    ),
+}
+ERRORS = (
+    "Broken(duty), CannotBeDone(index), Gains(ring, tariff), NeverHelps(ring, tariff), NoArrow(index), NoCommand(), NoDuty(duty), "
+    "NoIndex(index), NoLeast(run), NoName(name), NotApart(index), NotEnough(run), NoText(line), Nothing(), Piles(run), TooMany(most), "
+    "Used(name), Wrong(place)"
+)
+METHODS = {("store", "Heaps"): "__init__(works), beat(amounts, crew, deeds), heaps(), beats(), log(), back(), again(), twin()"}
+
+
+def listed(text):
+    """The names of the list, each with the names of its arguments."""
+    found = {}
+    for part in text.split("), "):
+        name, _, arguments = part.rstrip(")").partition("(")
+        found[name] = [argument for argument in arguments.split(", ") if argument]
+    return found
+
+
+def parsed(module):
+    return ast.parse((PACKAGE / (module + ".py")).read_text()).body
+
+
+class InterfaceTest(unittest.TestCase):
+
+    def test_functions(self):
+        for module, text in FUNCTIONS.items():
+            here = {part.name: part for part in parsed(module) if isinstance(part, ast.FunctionDef)}
+            for name, arguments in listed(text).items():
+                self.assertIn(name, here, module)
+                self.assertEqual([argument.arg for argument in here[name].args.args], arguments, name)
+                self.assertTrue(callable(getattr(importlib.import_module("neverheaps." + module), name)))
+
+    def test_errors(self):
+        module = importlib.import_module("neverheaps.errors")
+        here = {part.name: part for part in parsed("errors") if isinstance(part, ast.ClassDef)}
+        self.assertEqual([base.id for base in here["HeapError"].bases], ["ValueError"])
+        for name, arguments in listed(ERRORS).items():
+            self.assertEqual([base.id for base in here[name].bases], ["HeapError"])
+            if arguments:
+                self.assertEqual(list(inspect.signature(getattr(module, name)).parameters), arguments)
+
+    def test_methods(self):
+        for (module, name), text in METHODS.items():
+            body = [part for part in parsed(module) if isinstance(part, ast.ClassDef) and part.name == name][0].body
+            here = {part.name: part for part in body if isinstance(part, ast.FunctionDef)}
+            for method, arguments in listed(text).items():
+                self.assertEqual([argument.arg for argument in here[method].args.args], ["self"] + arguments, method)
+
+
+if __name__ == "__main__":
+    unittest.main()
