@@ -19,7 +19,7 @@ def unit_row(size, place):
 
 
 def common_divisor(row):
-    """The greatest common divisor of the items, 0 if all are 0."""
+    """The greatest common divisor of the items."""
     found = 0
     for item in row:
         found = gcd(found, item)
@@ -27,10 +27,8 @@ def common_divisor(row):
 
 
 def prime_row(row):
-    """The row divided by the common divisor of its items; zeros stay as they are."""
+    """The row, not zeros, divided by the common divisor of its items."""
     divisor = common_divisor(row)
-    if divisor == 0:
-        return tuple(row)
     return tuple([item // divisor for item in row])
 
 

@@ -102,7 +102,7 @@ def is_recipe(works, thing):
     takes, puts, hand = thing
     if not is_amounts(works, takes) or not is_amounts(works, puts):
         return False
-    if hand is not None and not (isinstance(hand, str) and hand in works[1]):
+    if hand is not None and hand not in works[1]:
         return False
     return stands_behind(takes, puts)
 

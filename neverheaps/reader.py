@@ -9,7 +9,7 @@ MOST_DIGITS = 10
 
 def _is_number(word):
     """Whether a word is an integer from 0 on as Python shows it, not too long."""
-    if not 1 <= len(word) <= MOST_DIGITS or not all(["0" <= sign <= "9" for sign in word]):
+    if len(word) > MOST_DIGITS or not all(["0" <= sign <= "9" for sign in word]):
         return False
     return word == "0" or word[0] != "0"
 

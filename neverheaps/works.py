@@ -6,9 +6,9 @@ from neverheaps.forms import MOST_HANDS, MOST_RECIPES
 
 def _place_among(names, name):
     """The index of a name among the names; NoName for any other value."""
-    if isinstance(name, str) and name in names:
-        return names.index(name)
-    raise NoName(name)
+    if name not in names:
+        raise NoName(name)
+    return names.index(name)
 
 
 def kind_place(works, name):

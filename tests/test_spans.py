@@ -3,12 +3,38 @@
 import copy
 import itertools
 import math
+import signal
 import unittest
 from fractions import Fraction
 
 from neverheaps.forms import is_fraction
 from neverheaps.spans import dearest_row, edges_of, least_shares, row_against, shares_for
 from tests.samples import seeded
+
+ROUNDS = (
+    (((-3, 2), (2, 2), (-2, 2), (0, 3), (0, -2), (2, 1), (-2, -3)), (0, 0), (2, 1, 0, 0, 3, 0, 0)),
+    (
+        ((-3, 1, 1), (-2, 0, 3), (-3, -1, 3), (0, 3, -1), (-3, -2, 2), (2, -2, 2), (-1, -3, -2), (-2, 3, 1), (0, 1, 1)),
+        (0, 0, 0), (3, 3, 0, 2, 2, 0, 0, 0, 1),
+    ),
+    (
+        ((5, 8, 1), (7, 5, 4), (-5, -8, 8), (-5, 9, -9), (6, -9, -5), (-7, -7, 9), (9, -4, -4), (-7, 8, 2)),
+        (0, 0, 0), (2, 0, 9, 0, 3, 0, 0, 6),
+    ),
+    (
+        ((-2, -7, 7, 6), (6, 9, -8, 1), (1, -9, 2, -5), (-5, -2, 2, 0), (-3, -3, 1, -1), (-3, -9, -6, 6), (0, -2, 2, -9), (-1, -9, 5, -2)),
+        (0, 0, 0, 0), (7, 0, 6, 0, 1, 0, 0, 1),
+    ),
+    (
+        ((-9, -8, 1, -6, -9), (1, 0, 7, -8, -1), (3, -1, 9, 6, -8), (3, -1, -4, 5, 8), (-4, -8, -9, 8, 5), (1, 2, -3, -9, 8),
+         (7, 8, -2, 6, -5), (9, 2, 2, -2, 5), (-4, 1, 6, 1, -6)),
+        (0, 1, 0, 0, 0), (5, 0, 0, 0, 5, 0, 4, 2, 0),
+    ),
+)
+
+
+def never_ends(*_):
+    raise AssertionError("the search does not come to an end")
 
 
 def product(one, other):
@@ -207,11 +233,17 @@ class SharesTest(unittest.TestCase):
             self.check(columns, goal)
             self.check_cheapest(columns, goal, tuple(rng.choice((0, 1, 1)) for _ in columns))
 
-    def test_a_task_that_goes_round(self):
-        # Beale's example, on which careless rules for the next step walk for ever.
+    def test_tasks_that_go_round(self):
+        # The first one is Beale's; the others go round if of even shares any one goes, not the first one.
         columns = ((1, 2, 0), (-32, -48, 0), (-4, -2, 4), (36, 12, 0), (4, 0, 0), (0, 4, 0), (0, 0, 4))
+        signal.signal(signal.SIGALRM, never_ends)
+        signal.alarm(60)
         self.assertEqual(self.check_cheapest(columns, (0, 0, 4), (0, 150, 0, 6, 0, 0, 0)), 0)
         self.assertEqual(self.check_cheapest(columns, (1, 0, 4), (3, 150, 1, 6, 9, 9, 9)), Fraction(12, 5))
+        for columns, goal, costs in ROUNDS:
+            self.check(columns, goal)
+            self.check_cheapest(columns, goal, costs)
+        signal.alarm(0)
 
     def test_the_same_again(self):
         rng = seeded(34)
