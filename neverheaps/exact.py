@@ -1,6 +1,6 @@
 """Exact sums: rows of integers, fractions, and equations that are solved without rounding."""
 
-from math import gcd
+from math import gcd, lcm
 
 
 def dot(one, other):
@@ -32,10 +32,23 @@ def prime_row(row):
     return tuple([item // divisor for item in row])
 
 
-def fraction(num, den):
+def lowest_terms(num, den):
     """The FRACTION num to den, den being above 0."""
     divisor = gcd(num, den)
     return num // divisor, den // divisor
+
+
+def made_whole(shares):
+    """A number from 1 on that makes all shares whole, and the integers that they are so many times."""
+    times = 1
+    for _, den in shares:
+        times = lcm(times, den)
+    return times, [num * (times // den) for num, den in shares]
+
+
+def is_less(one, other):
+    """Whether one FRACTION is less than the other one."""
+    return one[0] * other[1] < other[0] * one[1]
 
 
 class Equations:
@@ -138,7 +151,7 @@ class Equations:
         found = [(0, 1)] * self._many
         for row, column in zip(self._rows, self._told):
             if column < self._many:
-                found[column] = fraction(row[-1], self._divisor)
+                found[column] = lowest_terms(row[-1], self._divisor)
         return tuple(found)
 
     def dearest_row(self):

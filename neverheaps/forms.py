@@ -31,7 +31,7 @@ def _is_row(thing, size):
     return isinstance(thing, tuple) and len(thing) == size
 
 
-def _are_counts(thing, size):
+def are_counts(thing, size):
     """Whether thing is a tuple of so many integers from 0 on."""
     return _is_row(thing, size) and all([_is_count(item) for item in thing])
 
@@ -78,12 +78,12 @@ def is_works(thing):
 
 def is_amounts(works, thing):
     """Whether thing is AMOUNTS of the works."""
-    return _are_counts(thing, len(works[0]))
+    return are_counts(thing, len(works[0]))
 
 
 def is_crew(works, thing):
     """Whether thing is a CREW of the works."""
-    return _are_counts(thing, len(works[1]))
+    return are_counts(thing, len(works[1]))
 
 
 def stands_behind(takes, puts):
@@ -200,7 +200,7 @@ def is_tariff(works, thing):
     if not _is_row(thing, 2):
         return False
     prices, wages = thing
-    if not _is_row(prices, len(works[0])) or not _are_counts(wages, len(works[1])):
+    if not _is_row(prices, len(works[0])) or not are_counts(wages, len(works[1])):
         return False
     if not all([is_integer(price) for price in prices]):
         return False

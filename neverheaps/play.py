@@ -72,12 +72,18 @@ def keeps_rooms(works, sender, run, play, rooms):
     return all([is_within(heaps, rooms) for heaps in played(works, sender, run, play)])
 
 
-def sums_of(works, sender, run, play):
-    """What the run brings, its crews together, and how often each recipe is done."""
+def brought_by(works, sender, indexes):
+    """The amounts and the crew that arrows bring together, each as often as its index stands there."""
     amounts, crew = no_heaps(works), (0,) * len(works[1])
-    for index in run:
+    for index in indexes:
         _, _, brought, hands = sender[1][index]
         amounts, crew = added(amounts, brought), added(crew, hands)
+    return amounts, crew
+
+
+def sums_of(works, sender, run, play):
+    """What the run brings, its crews together, and how often each recipe is done."""
+    amounts, crew = brought_by(works, sender, run)
     counts = [0] * len(works[2])
     for deeds in play:
         for deed in deeds:

@@ -1,8 +1,6 @@
 """Ways: what crews work off, and what tells that a crew does not."""
 
-from math import lcm
-
-from neverheaps.exact import negated, unit_row
+from neverheaps.exact import made_whole, negated, unit_row
 from neverheaps.forms import is_amounts, is_crew, is_shares
 from neverheaps.play import added, is_within, no_heaps
 from neverheaps.spans import edges_of, row_against, shares_for
@@ -26,15 +24,7 @@ def tariff_against(works, amounts, crew):
     return row[:many], negated(row[many:])
 
 
-def _made_whole(shares):
-    """A number from 1 on that makes all shares whole, and the integers that they are so many times."""
-    times = 1
-    for _, den in shares:
-        times = lcm(times, den)
-    return times, [num * (times // den) for num, den in shares]
-
-
-def _sums(works, counts):
+def sums_by(works, counts):
     """What the recipes, each done so often, work off, and the crew that they want."""
     worked, hands = (0,) * len(works[0]), (0,) * len(works[1])
     for count, recipe in zip(counts, works[2]):
@@ -47,8 +37,8 @@ def is_worked_off(works, amounts, crew, thing):
     """Whether thing is SHARES in which the crew works off the amounts."""
     if not is_shares(works, thing):
         return False
-    times, counts = _made_whole(thing)
-    worked, hands = _sums(works, counts)
+    times, counts = made_whole(thing)
+    worked, hands = sums_by(works, counts)
     if worked != tuple([times * many for many in amounts]):
         return False
     return is_within(hands, [times * many for many in crew])

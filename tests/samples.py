@@ -1,5 +1,6 @@
 """Works, senders and values that the tests share."""
 
+import copy
 import random
 
 from neverheaps import errors
@@ -133,3 +134,44 @@ def random_run(rng, sender, most=12):
 def seeded(seed):
     """A generator of random numbers that are always the same."""
     return random.Random(seed)
+
+
+def _open_parts(thing):
+    """All lists and dicts in a thing, itself included."""
+    if isinstance(thing, dict):
+        return [thing] + [part for item in thing.values() for part in _open_parts(item)]
+    if isinstance(thing, (list, tuple)):
+        return ([thing] if isinstance(thing, list) else []) + [part for item in thing for part in _open_parts(item)]
+    return []
+
+
+def asked(test, function, *arguments):
+    """What a function returns, or the error that it raises: no argument is changed, and all that is returned is new."""
+    before = copy.deepcopy(arguments)
+    results = []
+    for _ in range(2):
+        try:
+            results.append(function(*arguments))
+        except errors.HeapError as error:
+            results.append((type(error), error.__dict__))
+    test.assertEqual(arguments, before)
+    test.assertEqual(results[0], results[1])
+    parts = [id(part) for part in _open_parts(results[0]) + _open_parts(results[1]) + _open_parts(arguments)]
+    test.assertEqual(len(parts), len(set(parts)))
+    if isinstance(results[0], dict):
+        test.assertEqual(list(results[0]), sorted(results[0]))
+    return results[0]
+
+
+def circle(steps, load=((0,), ()), loops=0):
+    """A sender with so many arrows from each place to the next one, round and round, and arrows from 0 to 0.
+
+    It has as many rings as the product of the steps, and the loops.
+    """
+    size = len(steps)
+    arrows = [(place, (place + 1) % size) + load for place, many in enumerate(steps) for _ in range(many)]
+    return size, tuple(arrows + [(0, 0) + load] * loops)
+
+
+# 2,000 rings of 23 arrows: as many as may be.
+MANY = (2, 2, 2, 2, 5, 5, 5)

@@ -57,6 +57,46 @@ BEHIND_22 = """
 ((0, 1), (2, 1))
 """
 
+BEHIND_26 = """
+>>> from neverheaps.heights import greatest_mean, mean_heights
+>>> from neverheaps.held import holds, is_why_not
+>>> from neverheaps.plans import is_plan, row_deeds
+>>> from neverheaps.rings import rings_of, sum_of
+>>> works = (("a",), ("h",), (((1,), (0,), "h"),))
+>>> sender = (2, ((0, 1, (1,), (0,)), (1, 0, (0,), (1,)), (1, 1, (2,), (1,))))
+>>> [rings_of(sender), sum_of(works, sender, (0, 1))]
+[[(0, 1), (2,)], ((1,), (1,))]
+>>> tariff = ((1,), (1,))
+>>> [greatest_mean(sender, tariff), mean_heights((2, sender[1][:2]), tariff)]
+[(1, 1), (0, 1)]
+>>> [holds(works, sender), is_why_not(works, sender, ((2,), tariff)), holds(works, (2, sender[1][:2]))]
+[False, True, True]
+>>> [is_plan(works, sender, (0, 1), (1, ((0,), (1,)), (0,))), is_plan(works, sender, (0, 1), (1, ((1,), (0,)), (0,)))]
+[True, False]
+>>> row_deeds(works, (3,))
+(0, 0, 0)
+"""
+
+BEHIND_29 = """
+>>> from neverheaps.bounds import rooms_told
+>>> from neverheaps.cutting import cut, rounds_of
+>>> from neverheaps.tracker import Tracker
+>>> works = (("a",), ("h",), (((1,), (0,), "h"),))
+>>> sender = (2, ((0, 1, (1,), (0,)), (1, 0, (0,), (1,)), (1, 1, (0,), (0,))))
+>>> run = (0, 2, 1, 0, 2, 2)
+>>> cut(sender, run)
+([(1, (2,)), (2, (0, 1)), (4, (2,)), (5, (2,))], (0,))
+>>> rounds_of(sender, run)
+[((0, 1), 1), ((2,), 3)]
+>>> tracker = Tracker(works, sender)
+>>> [tracker.beat(0), tracker.heaps(), tracker.stands_at()]
+[(), (1,), 1]
+>>> rooms = rooms_told(works, sender)
+>>> done = [[tracker.beat(1), tracker.beat(0)] for turn in range(40)]
+>>> [tracker.heaps() <= rooms, len(tracker.log()), tracker.stands_at()]
+[True, 81, 1]
+"""
+
 
 class ExamplesTest(unittest.TestCase):
 
@@ -75,6 +115,12 @@ class ExamplesTest(unittest.TestCase):
 
     def test_behind_22(self):
         self.check(BEHIND_22)
+
+    def test_behind_26(self):
+        self.check(BEHIND_26)
+
+    def test_behind_29(self):
+        self.check(BEHIND_29)
 
     def test_readme(self):
         self.check(README.read_text())

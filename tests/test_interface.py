@@ -35,13 +35,28 @@ FUNCTIONS = {
         "can_work_off(works, amounts, crew), tariff_against(works, amounts, crew), "
         "is_worked_off(works, amounts, crew, thing), is_way(works, thing), ways_of(works)"
     ),
+    "rings": "come_to(sender), sum_of(works, sender, indexes), rings_of(sender), gain_of(sender, tariff, indexes)",
+    "heights": (
+        "greatest_mean(sender, tariff), mean_ring(sender, tariff), mean_heights(sender, tariff), "
+        "are_heights(sender, tariff, fraction, thing)"
+    ),
+    "held": (
+        "holds(works, sender), is_why_not(works, sender, thing), is_why(works, sender, thing), why_not(works, sender), "
+        "why(works, sender)"
+    ),
+    "plans": "plan_of(works, sender, ring), row_deeds(works, counts), is_plan(works, sender, ring, thing)",
+    "cutting": "cut(sender, run), rounds_of(sender, run)",
+    "bounds": "rooms_told(works, sender), load_of(works, sender, ring), batches_most(works, sender)",
 }
 ERRORS = (
     "Broken(duty), CannotBeDone(index), Gains(ring, tariff), NeverHelps(ring, tariff), NoArrow(index), NoCommand(), NoDuty(duty), "
     "NoIndex(index), NoLeast(run), NoName(name), NotApart(index), NotEnough(run), NoText(line), Nothing(), Piles(run), TooMany(most), "
     "Used(name), Wrong(place)"
 )
-METHODS = {("store", "Heaps"): "__init__(works), beat(amounts, crew, deeds), heaps(), beats(), log(), back(), again(), twin()"}
+METHODS = {
+    ("store", "Heaps"): "__init__(works), beat(amounts, crew, deeds), heaps(), beats(), log(), back(), again(), twin()",
+    ("tracker", "Tracker"): "__init__(works, sender), beat(index), heaps(), log(), stands_at(), twin()",
+}
 
 
 def listed(text):
