@@ -6,7 +6,7 @@ from neverheaps.play import behind_deed
 MOST_COUPLES = 5000
 
 
-def _deeds_to(works, heaps, crew):
+def deeds_to(works, heaps, crew):
     """The dict from all couples of an end and a rest of the crew to deeds that lead there.
 
     The keys stand in the order of their deeds: shorter ones first, then lesser ones.
@@ -30,11 +30,11 @@ def _deeds_to(works, heaps, crew):
 
 def ends_of(works, heaps, crew):
     """The dict from all ends to the shortest deeds that lead there, of these the least."""
-    deeds_to = {}
-    for (end, _), deeds in _deeds_to(works, heaps, crew).items():
-        if end not in deeds_to:
-            deeds_to[end] = deeds
-    return {end: deeds_to[end] for end in sorted(deeds_to)}
+    found = {}
+    for (end, _), deeds in deeds_to(works, heaps, crew).items():
+        if end not in found:
+            found[end] = deeds
+    return {end: found[end] for end in sorted(found)}
 
 
 def _packed(row, width):
@@ -70,5 +70,5 @@ def _low_rows(rows):
 
 def low_ends(works, heaps, crew):
     """The ascending list of those ends within which no other end is."""
-    ends = {end: True for end, _ in _deeds_to(works, heaps, crew)}
+    ends = {end: True for end, _ in deeds_to(works, heaps, crew)}
     return _low_rows(list(ends))

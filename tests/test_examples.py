@@ -97,6 +97,27 @@ BEHIND_29 = """
 [True, 81, 1]
 """
 
+BEHIND_35 = """
+>>> from neverheaps.ahead import keeps_ahead
+>>> from neverheaps.hindsight import breaking_run, least_hindsight
+>>> from neverheaps.leastplay import least_break
+>>> from neverheaps.leastrooms import least_rooms
+>>> from neverheaps.tables import table_for
+>>> from neverheaps.trees import tree_against
+>>> works = (("a",), ("h",), (((1,), (0,), "h"),))
+>>> sender = (2, ((0, 1, (0,), (1,)), (1, 0, (1,), (0,))))
+>>> table_for(works, sender, (1,))
+{(0, (0,)): ((0, ()),), (0, (1,)): ((0, (0,)),), (1, (0,)): ((1, ()),)}
+>>> tree_against(works, sender, (0,))
+{(0, (0,)): (0, 2), (1, (0,)): (1, 1)}
+>>> works = (("a", "b", "c"), (), (((1, 1, 0), (0, 0, 0), None), ((1, 0, 1), (0, 0, 0), None)))
+>>> sender = (3, ((0, 1, (1, 1, 1), ()), (1, 2, (0, 1, 0), ()), (1, 2, (0, 0, 1), ())))
+>>> [least_rooms(works, sender, 1), least_hindsight(works, sender, 1), breaking_run(works, sender, (0, 0, 1))]
+[[(1, 1, 1)], [(0, 1, 1)], (0, 1)]
+>>> [[keeps_ahead(works, sender, (0, 1, 1), many) for many in (0, 1)], least_break(works, sender, (0, 1, 1))]
+[[False, True], (0,)]
+"""
+
 
 class ExamplesTest(unittest.TestCase):
 
@@ -121,6 +142,9 @@ class ExamplesTest(unittest.TestCase):
 
     def test_behind_29(self):
         self.check(BEHIND_29)
+
+    def test_behind_35(self):
+        self.check(BEHIND_35)
 
     def test_readme(self):
         self.check(README.read_text())

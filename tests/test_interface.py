@@ -47,6 +47,15 @@ FUNCTIONS = {
     "plans": "plan_of(works, sender, ring), row_deeds(works, counts), is_plan(works, sender, ring, thing)",
     "cutting": "cut(sender, run), rounds_of(sender, run)",
     "bounds": "rooms_told(works, sender), load_of(works, sender, ring), batches_most(works, sender)",
+    "tables": (
+        "safe_positions(works, sender, rooms), table_for(works, sender, rooms), is_table(works, sender, rooms, thing), "
+        "are_enough(works, sender, rooms), table_play(works, sender, table, run)"
+    ),
+    "trees": "tree_against(works, sender, rooms), is_tree(works, sender, rooms, thing)",
+    "leastrooms": "least_rooms(works, sender, most)",
+    "hindsight": "heaps_in(works, sender, rooms, run), least_hindsight(works, sender, most), breaking_run(works, sender, rooms)",
+    "ahead": "keeps_ahead(works, sender, rooms, many), least_ahead(works, sender, rooms)",
+    "leastplay": "least_break(works, sender, rooms), lowest_play(works, sender, rooms, run)",
 }
 ERRORS = (
     "Broken(duty), CannotBeDone(index), Gains(ring, tariff), NeverHelps(ring, tariff), NoArrow(index), NoCommand(), NoDuty(duty), "

@@ -104,6 +104,17 @@ class LanguageTest(unittest.TestCase):
                 if isinstance(part, ast.arg):
                     self.assertFalse(part.arg in BUILTINS or part.arg in BARRED or part.arg in known, (path, part.arg))
 
+    def test_no_local_name_hides_another_one(self):
+        for path, tree in trees():
+            above = {part.name for part in tree.body if isinstance(part, (ast.FunctionDef, ast.ClassDef))}
+            above |= {alias.name for part in tree.body if isinstance(part, ast.ImportFrom) for alias in part.names}
+            for part in functions(tree):
+                for inner in ast.walk(part):
+                    if isinstance(inner, ast.Name) and isinstance(inner.ctx, ast.Store):
+                        self.assertNotIn(inner.id, above, (path, inner.lineno))
+                    if isinstance(inner, ast.arg):
+                        self.assertNotIn(inner.arg, above, (path, inner.lineno))
+
     def test_methods(self):
         own = {part.name for _, tree in trees() for part in functions(tree) if isinstance(part, ast.FunctionDef)}
         for path, tree in trees():
