@@ -26,7 +26,7 @@ def _count_views(sender, many):
 
 
 def _longer(sender, place, indexes):
-    """The tuples of these arrows, which come next at a place, and one more; these alone if there is no further one."""
+    """The tuples of these arrows, which come next at a place, and one more; these alone if there is none."""
     end = sender[1][indexes[-1]][1] if indexes else place
     further = arrows_from(sender, end)
     if not further:

@@ -47,7 +47,7 @@ class Box:
         self._lots = [self._lots_of(kind) for kind in range(len(rooms))]
 
     def _lots_of(self, kind):
-        """For each number of things of a kind, and one that is too great, the lot of the heaps with so many or more."""
+        """For each number of things of a kind, and one too great, the lot of the heaps with so many or more."""
         lots = [0] * (self.rooms[kind] + 2)
         for number, heaps in enumerate(self.members):
             lots[heaps[kind]] += 1 << number
@@ -103,7 +103,7 @@ class Beat:
         return self._box.below(tuple([room - by for room, by in zip(self._box.rooms, risen)]))
 
     def _deeds_from(self, couple):
-        """The deeds that can follow: tuples of the recipe, the couple behind, and the lot of heaps ahead that allow it."""
+        """The deeds that can follow: the recipe, the couple behind it, and the lot of heaps ahead that allow it."""
         lying, rest = couple
         found = []
         for index, (takes, _, _) in enumerate(self._works[2]):
@@ -117,7 +117,7 @@ class Beat:
         return found
 
     def leads(self):
-        """The dict from differences of numbers to the lots of the heaps from which deeds lead on by this difference."""
+        """The dict from differences of numbers to the lots of the heaps from which deeds lead on by as much."""
         lots = {self._start: self._box.full}
         found = {}
         for couple in self._couples:
