@@ -6,8 +6,7 @@ more arrow is told, if there is one, and the deeds of the first one are.
 """
 
 from neverheaps.errors import TooMany
-from neverheaps.positions import Moves
-from neverheaps.tables import arrows_from
+from neverheaps.tables import Moves, arrows_from
 
 MOST_AHEAD = 3
 MOST_VIEWS = 20000

@@ -1,9 +1,9 @@
 """Rooms that some play of each run keeps, be it known only behind the run."""
 
+from neverheaps.ends import all_within, numbers_in
 from neverheaps.errors import TooMany
 from neverheaps.leastrooms import are_above, moves_within
-from neverheaps.positions import Moves, all_within, numbers_in
-from neverheaps.tables import arrows_from
+from neverheaps.tables import Moves, arrows_from
 
 MOST_LOTS = 2000
 

@@ -2,7 +2,7 @@
 
 from neverheaps.errors import NoLeast, NotEnough
 from neverheaps.hindsight import first_breaking, lots_in, runs_to_lots
-from neverheaps.positions import Moves
+from neverheaps.tables import Moves
 
 
 def _least_in(moves, lot):

@@ -1,9 +1,9 @@
 """Least rooms that are enough."""
 
+from neverheaps.ends import all_within
 from neverheaps.errors import TooMany
 from neverheaps.play import is_within
-from neverheaps.positions import Moves, all_within
-from neverheaps.tables import holds_none, safe_lots
+from neverheaps.tables import Moves, holds_none, safe_lots
 
 MOST_ROOMS = 200
 

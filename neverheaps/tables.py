@@ -1,9 +1,51 @@
 """Tables: what is done at each position, so that rooms are kept on all runs."""
 
-from neverheaps.errors import CannotBeDone
+from neverheaps.ends import Beat, Box, numbers_in, shifted
+from neverheaps.errors import CannotBeDone, TooMany
 from neverheaps.forms import is_amounts, is_deeds, is_integer
 from neverheaps.play import added, after, is_within, no_heaps
-from neverheaps.positions import Moves, numbers_in
+
+MOST_POSITIONS = 3000
+
+
+class Moves:
+    """Where the arrows of a sender lead from all positions."""
+
+    def __init__(self, works, sender, rooms):
+        many = sender[0]
+        for room in rooms:
+            many *= room + 1
+        if many > MOST_POSITIONS:
+            raise TooMany(MOST_POSITIONS)
+        self.box = Box(rooms)
+        self._works = works
+        self._arrows = sender[1]
+        leads = {}
+        for _, _, amounts, crew in sender[1]:
+            if (amounts, crew) not in leads:
+                leads[(amounts, crew)] = Beat(works, self.box, amounts, crew).leads()
+        self._leads = [leads[(amounts, crew)] for _, _, amounts, crew in sender[1]]
+
+    def beat_of(self, index):
+        """The beat of the arrow with this index."""
+        _, _, amounts, crew = self._arrows[index]
+        return Beat(self._works, self.box, amounts, crew)
+
+    def led_to(self, index, lot):
+        """The lot of the heaps to which the arrow leads from some heaps of a lot."""
+        found = 0
+        for by, fitting in self._leads[index].items():
+            part = lot & fitting
+            if part > 0:
+                found |= shifted(part, by)
+        return found
+
+    def led_from(self, index, lot):
+        """The lot of the heaps from which the arrow leads to some heaps of a lot."""
+        found = 0
+        for by, fitting in self._leads[index].items():
+            found |= fitting & shifted(lot, -by)
+        return found
 
 
 def lost_rounds(moves, sender, lot):

@@ -1,8 +1,8 @@
 """Trees of arrows against which nobody keeps rooms."""
 
+from neverheaps.ends import numbers_in
 from neverheaps.forms import is_integer
-from neverheaps.positions import Moves, numbers_in
-from neverheaps.tables import are_positions, holds_none, lost_rounds
+from neverheaps.tables import Moves, are_positions, holds_none, lost_rounds
 
 
 def tree_against(works, sender, rooms):

@@ -3,13 +3,12 @@
 import unittest
 
 from neverheaps.ahead import keeps_ahead, least_ahead
-from neverheaps.ends import ends_of
+from neverheaps.ends import Box, ends_of, numbers_in
 from neverheaps.errors import TooMany
 from neverheaps.forms import is_play
 from neverheaps.hindsight import breaking_run, heaps_in
 from neverheaps.leastplay import least_break, lowest_play
 from neverheaps.play import keeps_rooms
-from neverheaps.positions import Box, numbers_in
 from neverheaps.tables import are_enough, is_table, safe_positions, table_for, table_play
 from neverheaps.trees import is_tree, tree_against
 from tests import slow
@@ -253,6 +252,13 @@ class IsTableTest(unittest.TestCase):
             thing.pop((0, (1,)), None) if key == (0, (True,)) else None
             thing[key] = ((1, ()),) if key == (True, (0,)) else ((0, (0,)),)
             self.assertIs(self.judge(thing), False, key)
+
+    def test_places_that_are_none(self):
+        # From them no arrows go, so that nothing else would be wrong.
+        for place in (-1, -2, 2, 3, 10 ** 39):
+            thing = dict(self.table)
+            thing[place, (0,)] = ()
+            self.assertIs(self.judge(thing), False)
 
     def test_any_value(self):
         for thing in any_values() + [list(self.table.items()), tuple(self.table.items()), (self.table,)]:

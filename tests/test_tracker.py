@@ -68,6 +68,24 @@ class TrackerTest(unittest.TestCase):
         tracker = self.led(ONE, TURN, lambda steps: steps[0], 400)
         self.assertLessEqual(tracker.heaps(), (5,))
 
+    def test_things_made_of_things_do_not_pile_up(self):
+        # What is made three deep goes out in the end, though the told rooms would have place for thousands of beats.
+        rng = seeded(2805)
+        for choose in (rng.choice, lambda steps: steps[0], lambda steps: steps[-1]):
+            tracker, most = Tracker(DEEP, DEEP_SENDER), no_heaps(DEEP)
+            for _ in range(3000):
+                tracker.beat(choose([index for index, arrow in enumerate(DEEP_SENDER[1]) if arrow[0] == tracker.stands_at()]))
+                most = tuple(max(one, other) for one, other in zip(most, tracker.heaps()))
+            self.assertTrue(is_within(most, (10, 5, 30, 15)), most)
+
+    def test_a_batch_goes_on_when_its_deeds_are_done(self):
+        works = (("a", "b", "c"), ("h",), (((1, 0, 0), (0, 1, 0), "h"), ((0, 1, 0), (0, 0, 1), "h"), ((0, 0, 1), (0, 0, 0), "h")))
+        tracker = Tracker(works, (1, ((0, 0, (1, 0, 0), (3,)), (0, 0, (0, 0, 0), (3,)))))
+        self.assertEqual([tracker.beat(0) for _ in range(6)], [(), (0,), (0, 1), (0, 1, 2), (0, 1, 2), (0, 1, 2)])
+        self.assertEqual(tracker.heaps(), (1, 1, 1))
+        # Another arrow has no part in what is written.
+        self.assertEqual([tracker.beat(1), tracker.beat(0), tracker.heaps()], [(), (0, 1, 2), (1, 1, 1)])
+
     def test_long_runs(self):
         rng = seeded(2801)
         for works, sender in ((ONE, TURN), (DEEP, DEEP_SENDER)):
