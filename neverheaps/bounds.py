@@ -34,9 +34,8 @@ def batches_most(works, sender):
     return _batches(works, sender, [plan[0] for _, plan in plans_of(works, sender)])
 
 
-def rooms_told(works, sender):
-    """The rooms that are told for the sender."""
-    plans = plans_of(works, sender)
+def rooms_by(works, sender, plans):
+    """The rooms that are told by the list of all rings, each with its plan or its throwing plan."""
     times = [plan[0] for _, plan in plans]
     greatest = no_heaps(works)
     for ring, plan in plans:
@@ -45,3 +44,8 @@ def rooms_told(works, sender):
     many = sum(times) + _batches(works, sender, times)
     once, _ = brought_by(works, sender, list(range(len(sender[1]))))
     return added(once, [many * item for item in greatest])
+
+
+def rooms_told(works, sender):
+    """The rooms that are told for the sender."""
+    return rooms_by(works, sender, plans_of(works, sender))

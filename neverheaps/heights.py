@@ -11,12 +11,20 @@ def _gains(sender, tariff):
 
 
 def _longer(sender, gains, sums):
-    """From greatest gains of the runs to each place, those of the runs that are an arrow longer."""
+    """From the greatest sums of gains up to each place, those that are an arrow longer."""
     found = {}
     for (source, target, _, _), gain in zip(sender[1], gains):
         if source in sums and (target not in found or found[target] < sums[source] + gain):
             found[target] = sums[source] + gain
     return found
+
+
+def greatest_sums(sender, gains, most):
+    """For each number up to most the dict of the greatest sums of gains of so many arrows on end, by the last place."""
+    rows = [{place: 0 for place in come_to(sender)}]
+    for _ in range(most):
+        rows.append(_longer(sender, gains, rows[-1]))
+    return rows
 
 
 def _least_mean(rows, place):

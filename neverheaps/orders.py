@@ -2,7 +2,7 @@
 
 from neverheaps.errors import TooMany
 from neverheaps.forms import is_deeds
-from neverheaps.play import added, behind_deed, no_heaps
+from neverheaps.play import added, no_heaps
 
 MOST_DEEDS = 1000
 
@@ -14,41 +14,73 @@ def is_order(works, thing):
     return sorted(thing) == list(range(len(works[2])))
 
 
-def _first_deed(works, order, heaps, crew):
-    """The first recipe of the order that can be done, with the couple behind it; None if none can."""
-    for index in order:
-        couple = behind_deed(works, heaps, crew, index)
-        if couple is not None:
-            return index, couple
-    return None
+class Worker:
+    """Somebody who does the deeds of each beat by an order, and nothing else."""
+
+    def __init__(self, works, order):
+        self._order = order
+        recipes = [works[2][index] for index in order]
+        # For each recipe, in order: the kinds that it takes with how many, by how much it changes each kind, and
+        # the place of its hand, or None.
+        self._takes = [[(kind, taken) for kind, taken in enumerate(takes) if taken > 0] for takes, _, _ in recipes]
+        self._changes = [tuple([put - taken for taken, put in zip(takes, puts)]) for takes, puts, _ in recipes]
+        self._hands = [None if hand is None else works[1].index(hand) for _, _, hand in recipes]
+        self._feeds = [self._is_feeding(at, puts) for at, (_, puts, _) in enumerate(recipes)]
+
+    def _is_feeding(self, at, puts):
+        """Whether something is put that a recipe further ahead in the order takes."""
+        return any([puts[kind] > 0 for ahead in self._takes[:at] for kind, _ in ahead])
+
+    def _times(self, at, heaps, crew):
+        """How often the recipe can be done, one time behind the other."""
+        times = min([heaps[kind] // taken for kind, taken in self._takes[at]])
+        if self._hands[at] is not None:
+            times = min(times, crew[self._hands[at]])
+        # What it puts may be wanted for a recipe further ahead, whose turn it is then.
+        return min(times, 1) if self._feeds[at] else times
+
+    def done(self, heaps, crew):
+        """The deeds of a beat, a list of tuples (index, times), and the heaps behind them."""
+        lying, rest = heaps, list(crew)
+        deeds, many, at = [], 0, 0
+        while at < len(self._order):
+            times = self._times(at, lying, rest)
+            if times == 0:
+                at += 1
+            else:
+                many += times
+                if many > MOST_DEEDS:
+                    raise TooMany(MOST_DEEDS)
+                deeds.append((self._order[at], times))
+                lying = tuple([one + times * change for one, change in zip(lying, self._changes[at])])
+                if self._hands[at] is not None:
+                    rest[self._hands[at]] -= times
+                # Nothing ahead can be done now, but where it was fed.
+                at = 0 if self._feeds[at] else at + 1
+        return deeds, lying
 
 
-def _done_by(works, order, heaps, crew):
-    """The deeds by the order, and the heaps behind them."""
-    deeds = []
-    lying, rest = heaps, crew
-    found = _first_deed(works, order, lying, rest)
-    while found is not None:
-        if len(deeds) == MOST_DEEDS:
-            raise TooMany(MOST_DEEDS)
-        index, (lying, rest) = found
-        deeds.append(index)
-        found = _first_deed(works, order, lying, rest)
-    return tuple(deeds), lying
+def _one_by_one(deeds):
+    """The deeds, each index as often as it is done."""
+    found = []
+    for index, times in deeds:
+        found += [index] * times
+    return tuple(found)
 
 
 def deeds_by(works, order, heaps, crew):
     """The deeds by the order: again and again the first recipe of it that can be done."""
-    deeds, _ = _done_by(works, order, heaps, crew)
-    return deeds
+    deeds, _ = Worker(works, order).done(heaps, crew)
+    return _one_by_one(deeds)
 
 
 def order_play(works, sender, order, run):
     """The play of a run whose deeds are by the order."""
+    worker = Worker(works, order)
     heaps = no_heaps(works)
     play = []
     for index in run:
         _, _, amounts, crew = sender[1][index]
-        deeds, heaps = _done_by(works, order, added(heaps, amounts), crew)
-        play.append(deeds)
+        deeds, heaps = worker.done(added(heaps, amounts), crew)
+        play.append(_one_by_one(deeds))
     return play

@@ -4,7 +4,7 @@ from neverheaps.errors import Gains
 from neverheaps.exact import made_whole
 from neverheaps.forms import are_counts, is_integer
 from neverheaps.held import why_not
-from neverheaps.play import added, is_within
+from neverheaps.play import added, is_within, no_heaps
 from neverheaps.rings import rings_of, sum_of
 from neverheaps.ways import can_work_off, sums_by, tariff_against
 from neverheaps.works import levels
@@ -28,16 +28,23 @@ def _arrow_row(works, left, crew, times):
     return tuple(row)
 
 
+def given_to_arrows(works, sender, ring, times, counts):
+    """How often each recipe is done, given to the hands of the arrows of a ring: the rows and free of a plan."""
+    left = list(counts)
+    rows = tuple([_arrow_row(works, left, sender[1][index][3], times) for index in ring])
+    # All that wants a hand is given out by now.
+    return rows, tuple(left)
+
+
 def plan_of(works, sender, ring):
     """A plan of the ring."""
     amounts, crew = sum_of(works, sender, ring)
     shares = can_work_off(works, amounts, crew)
     if shares is None:
         raise Gains(ring, tariff_against(works, amounts, crew))
-    times, left = made_whole(shares)
-    rows = tuple([_arrow_row(works, left, sender[1][index][3], times) for index in ring])
-    # All that wants a hand is given out by now.
-    return times, rows, tuple(left)
+    times, counts = made_whole(shares)
+    rows, free = given_to_arrows(works, sender, ring, times, counts)
+    return times, rows, free
 
 
 def held_rings(works, sender):
@@ -55,9 +62,9 @@ def plans_of(works, sender):
 
 
 def total_of(plan):
-    """How often each recipe is done by a plan."""
-    _, rows, counts = plan
-    for row in rows:
+    """How often each recipe is done by a plan, or by a throwing plan."""
+    counts = plan[-1]
+    for row in plan[-2]:
         counts = added(counts, row)
     return counts
 
@@ -81,8 +88,8 @@ def _is_done_by(works, row, crew, times):
     return is_within(hands, [times * many for many in crew])
 
 
-def is_plan(works, sender, ring, thing):
-    """Whether thing is a plan of the ring."""
+def is_plan_with(works, sender, ring, thrown, thing):
+    """Whether thing is a plan of the ring, but that these AMOUNTS are left of what the ring brings."""
     if not _is_plan_form(works, ring, thing):
         return False
     times, rows, free = thing
@@ -93,7 +100,12 @@ def is_plan(works, sender, ring, thing):
         return False
     brought, _ = sum_of(works, sender, ring)
     worked, _ = sums_by(works, total_of(thing))
-    return worked == tuple([times * many for many in brought])
+    return added(worked, thrown) == tuple([times * many for many in brought])
+
+
+def is_plan(works, sender, ring, thing):
+    """Whether thing is a plan of the ring."""
+    return is_plan_with(works, sender, ring, no_heaps(works), thing)
 
 
 def row_deeds(works, counts):

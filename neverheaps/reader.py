@@ -31,6 +31,10 @@ class Line:
         if not fine:
             raise NoText(self.index)
 
+    def end(self):
+        """Refuse words that are left."""
+        self.check(self.is_read())
+
     def word(self):
         """The next word, of any kind."""
         self.check(not self.is_read())
@@ -47,13 +51,26 @@ class Line:
         self.check(_is_number(word))
         return int(word)
 
+    def numbers(self):
+        """Read all words that are left: numbers."""
+        found = []
+        while not self.is_read():
+            found.append(self.number())
+        return tuple(found)
+
+    def name(self):
+        """Read a name."""
+        word = self.word()
+        self.check(is_name(word))
+        return word
+
     def names(self):
         """Read all words that are left: different names."""
         found = []
         while not self.is_read():
-            word = self.word()
-            self.check(is_name(word) and word not in found)
-            found.append(word)
+            name = self.name()
+            self.check(name not in found)
+            found.append(name)
         return tuple(found)
 
     def amounts(self, names):
@@ -67,15 +84,15 @@ class Line:
         return tuple(found)
 
 
-def _words_of(line):
-    """The words of a line without its remark."""
-    return [word for word in line.partition("#")[0].split(" ") if word != ""]
+def words_of(line):
+    """The words of a line."""
+    return [word for word in line.split(" ") if word != ""]
 
 
 def _lines_of(text):
     """The lines in which something is left, and behind them one without words for the end of the text."""
     lines = text.split("\n")
-    found = [Line(index, _words_of(line)) for index, line in enumerate(lines)]
+    found = [Line(index, words_of(line.partition("#")[0])) for index, line in enumerate(lines)]
     return [line for line in found if not line.is_read()] + [Line(len(lines), [])]
 
 
@@ -95,8 +112,8 @@ def _read_hands(line, kinds):
     return hands
 
 
-def _read_recipe(line, works):
-    """A further recipe of a works."""
+def recipe_in(works, line):
+    """The recipe that a line shows, which may stand in the works."""
     line.keyword("recipe")
     takes = line.amounts(works[0])
     line.keyword("to")
@@ -106,7 +123,8 @@ def _read_recipe(line, works):
         line.keyword("by")
         hand = line.word()
     recipe = (takes, puts, hand)
-    line.check(line.is_read() and len(works[2]) < MOST_RECIPES and is_recipe(works, recipe))
+    line.end()
+    line.check(is_recipe(works, recipe))
     return recipe
 
 
@@ -119,7 +137,8 @@ def read_works(text):
     hands = _read_hands(lines[1], kinds)
     recipes = ()
     for line in lines[2:-1]:
-        recipes = recipes + (_read_recipe(line, (kinds, hands, recipes)),)
+        line.check(len(recipes) < MOST_RECIPES)
+        recipes = recipes + (recipe_in((kinds, hands, recipes), line),)
     return kinds, hands, recipes
 
 
@@ -127,7 +146,8 @@ def _read_places(line):
     """The number of places of a sender."""
     line.keyword("places")
     places = line.number()
-    line.check(places >= 1 and line.is_read())
+    line.end()
+    line.check(places >= 1)
     return places
 
 
@@ -139,8 +159,14 @@ def _read_arrow(line, works, places):
     amounts = line.amounts(works[0])
     line.keyword("with")
     crew = line.amounts(works[1])
-    line.check(line.is_read())
+    line.end()
     return source, target, amounts, crew
+
+
+def sender_in(works, lines):
+    """The sender of the works that some lines show, at least one."""
+    places = _read_places(lines[0])
+    return places, tuple([_read_arrow(line, works, places) for line in lines[1:]])
 
 
 def read_sender(works, text):
@@ -150,9 +176,8 @@ def read_sender(works, text):
     if not isinstance(text, str):
         raise Wrong(1)
     lines = _lines_of(text)
-    places = _read_places(lines[0])
-    arrows = [_read_arrow(line, works, places) for line in lines[1:-1]]
-    return places, tuple(arrows)
+    # The end of the text is refused if there is nothing ahead of it.
+    return sender_in(works, lines[:-1] or lines)
 
 
 def read_run(works, sender, text):
@@ -166,10 +191,8 @@ def read_run(works, sender, text):
     lines = _lines_of(text)
     first = lines[0]
     first.keyword("run")
-    run = []
-    while not first.is_read():
-        run.append(first.number())
-    first.check(is_run(sender, tuple(run)))
+    run = first.numbers()
+    first.check(is_run(sender, run))
     for line in lines[1:-1]:
         line.check(False)
-    return tuple(run)
+    return run
