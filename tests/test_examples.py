@@ -118,6 +118,93 @@ BEHIND_35 = """
 [[False, True], (0,)]
 """
 
+BEHIND_38 = """
+>>> from neverheaps.against import bears_all, parting_sender, way_between
+>>> from neverheaps.needless import least_lots, needless_recipes
+>>> from neverheaps.wanting import bad_rings, barring, wanting
+>>> both, alone = ((1, 1), (0, 0), None), ((1, 0), (0, 0), "h")
+>>> one, other = (("a", "b"), ("h",), (both,)), (("a", "b"), ("h",), (both, alone))
+>>> [bears_all(other, one), bears_all(one, other), way_between(one, other)]
+[True, False, ((1, 0), (1,))]
+>>> parting_sender(one, other)
+(1, ((0, 0, (1, 0), (1,)),))
+>>> three = (("a", "b"), ("h",), (both, alone, both))
+>>> [needless_recipes(three), least_lots(three)]
+[[0, 2], [(0, 1), (1, 2)]]
+>>> sender = (1, ((0, 0, (1, 1), (0,)), (0, 0, (2, 1), (0,))))
+>>> [bad_rings(one, sender), barring(one, sender, 2), wanting(one, sender, (alone, ((2, 1), (0, 0), None)))]
+[[(1,)], [(1,)], [(1,)]]
+"""
+
+BEHIND_41 = """
+>>> from neverheaps.factor import least_factor
+>>> from neverheaps.loss import is_loss_tariff, least_loss, loss_shares, ring_loss
+>>> from neverheaps.thrower import Thrower, is_throwing_plan
+>>> works = (("a", "b"), ("h",), (((1, 0), (0, 0), "h"), ((2, 0), (0, 1), None)))
+>>> sender = (1, ((0, 0, (3, 0), (1,)),))
+>>> [ring_loss(works, sender, (0,), (5, 1)), loss_shares(works, sender, (0,), (5, 1))]
+[(1, 1), (((0, 1), (1, 1)), ((1, 1), (1, 1)))]
+>>> [least_loss(works, sender, (5, 1)), is_loss_tariff(works, sender, (0,), (5, 1), (2, ((1, 2), (1,))))]
+[(1, 1), True]
+>>> [is_throwing_plan(works, sender, (0,), (1, (0, 1), ((1, 0),), (0, 1))), least_factor(works, sender)]
+[True, (3, 1)]
+>>> thrower = Thrower(works, sender, (5, 1))
+>>> done = [thrower.beat(0) for turn in range(50)]
+>>> thrower.paid() <= 50
+True
+"""
+
+BEHIND_44 = """
+>>> from neverheaps.parts import either
+>>> from neverheaps.promises import at_most_broken, at_most_come, most_broken
+>>> from neverheaps.side import beside, greatest_rate, holds_apart, least_share, places_at
+>>> works = (("a",), ("h",), (((1,), (0,), "h"),))
+>>> breaker, bringer = at_most_broken(works, "h", 1, 2), at_most_come(works, "a", 1, 2)
+>>> [breaker, bringer[1][1]]
+[(2, ((0, 0, (0,), (1,)), (0, 1, (0,), (0,)), (1, 0, (0,), (1,)))), (0, 1, (1,), (0,))]
+>>> [least_share(works, breaker, "h"), greatest_rate(works, bringer, "a"), most_broken(works, breaker, "h", 3)]
+[((1, 2), (1, 2)), ((1, 2), (1, 2)), 2]
+>>> [holds_apart(works, bringer, (breaker,)), holds_apart(works, at_most_come(works, "a", 2, 3), (breaker,))]
+[True, False]
+>>> [beside((bringer, breaker))[0], len(beside((bringer, breaker))[1]), places_at((bringer, breaker), 2)]
+[4, 9, (1, 0)]
+>>> either(bringer, breaker)[1][:3]
+((0, 1, (0,), (0,)), (0, 2, (1,), (0,)), (0, 3, (0,), (1,)))
+"""
+
+BEHIND_46 = """
+>>> from neverheaps.apart import at_once, is_apart, lots_of, touching_recipes
+>>> from neverheaps.piles import good_orders, order_rooms, pile_run
+>>> works = (("a", "b"), (), (((1, 0), (0, 0), None), ((1, 1), (0, 0), None)))
+>>> turns = (2, ((0, 1, (1, 0), ()), (1, 0, (0, 1), ())))
+>>> [pile_run(works, turns, (0, 1), (1, 1)), good_orders(works, turns, (1, 1)), good_orders(works, turns, (1, 0))]
+[(0, 1, 0, 1), [(1, 0)], []]
+>>> both = (1, ((0, 0, (1, 1), ()),))
+>>> [good_orders(works, both, (0, 0)), order_rooms(works, both, (1, 0), 3), order_rooms(works, both, (0, 1), 3)]
+[[(1, 0)], (0, 0), None]
+>>> [is_apart(works), touching_recipes(works)]
+[False, (0, 1)]
+>>> apart = (("a", "b"), ("h", "k"), (((2, 0), (0, 0), "h"), ((0, 1), (0, 0), None), ((2, 0), (0, 0), "k")))
+>>> [lots_of(apart), at_once(apart, (5, 2), (1, 2))]
+[[((0, 1), (1,)), ((2, 0), (0, 2))], (0, 1, 1, 2)]
+"""
+
+BEHIND_48 = """
+>>> from neverheaps.book import Book
+>>> from neverheaps.desk import Desk
+>>> works = (("a", "b"), ("h",), (((1, 0), (0, 0), "h"), ((0, 1), (0, 0), "h")))
+>>> book = Book(works)
+>>> [book.send("s", (1, ((0, 0, (1, 0), (1,)),))), book.owe(("hold", "s")), book.owe(("rooms", "s", (0, 0)))]
+[None, None, None]
+>>> [book.take(1), book.works()[2], book.held(), book.is_kept(("factor", "s", (1, 2)))]
+[((0, 1), (0, 0), 'h'), (((1, 0), (0, 0), 'h'),), ['s'], False]
+>>> desk = Desk("kinds a b\\nhands h\\nrecipe 1 a to by h")
+>>> [desk.execute("send s = places 1 ; arrow 0 0 1 a with 1 h"), desk.execute("owe hold s"), desk.execute("take 0")]
+[['done'], ['done'], ['refused Broken']]
+>>> [desk.execute("add recipe 1 b to"), desk.execute("works"), desk.execute("duties")]
+[['done'], ['kinds a b', 'hands h', 'recipe 1 a to by h', 'recipe 1 b to'], ['hold s']]
+"""
+
 
 class ExamplesTest(unittest.TestCase):
 
@@ -145,6 +232,21 @@ class ExamplesTest(unittest.TestCase):
 
     def test_behind_35(self):
         self.check(BEHIND_35)
+
+    def test_behind_38(self):
+        self.check(BEHIND_38)
+
+    def test_behind_41(self):
+        self.check(BEHIND_41)
+
+    def test_behind_44(self):
+        self.check(BEHIND_44)
+
+    def test_behind_46(self):
+        self.check(BEHIND_46)
+
+    def test_behind_48(self):
+        self.check(BEHIND_48)
 
     def test_readme(self):
         self.check(README.read_text())

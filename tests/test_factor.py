@@ -105,6 +105,8 @@ class FactorTest(unittest.TestCase):
                 out = tuple((unit, (0,) * len(unit), rng.choice(works[1])) for unit in units)
                 works = (works[0], works[1], works[2] + out)
             sender = weak_sender(rng, works, rng.randint(1, 4), rng.randint(0, 7))
+            if turn % 3 == 0:
+                sender = (sender[0], tuple(arrow[:3] + (tuple(1 + many // 3 for many in arrow[3]),) for arrow in sender[1]))
             factor = self.check_all(works, sender)
             above = None if factor is None else factor[0] > factor[1]
             seen[above] += 1

@@ -56,6 +56,46 @@ FUNCTIONS = {
     "hindsight": "heaps_in(works, sender, rooms, run), least_hindsight(works, sender, most), breaking_run(works, sender, rooms)",
     "ahead": "keeps_ahead(works, sender, rooms, many), least_ahead(works, sender, rooms)",
     "leastplay": "least_break(works, sender, rooms), lowest_play(works, sender, rooms, run)",
+    "against": (
+        "bears_all(one, other), are_alike(one, other), way_between(one, other), parting_tariff(one, other), "
+        "parting_sender(one, other), joint_works(one, other)"
+    ),
+    "needless": (
+        "works_of(works, lot), needless_recipes(works), least_lots(works), greatest_apart(works, other), "
+        "least_bearing(works, other), needless_hands(works)"
+    ),
+    "wanting": "wanting(works, sender, recipes), bad_rings(works, sender), barring(works, sender, most)",
+    "loss": (
+        "ring_loss(works, sender, ring, costs), loss_shares(works, sender, ring, costs), least_loss(works, sender, costs), "
+        "loss_tariff(works, sender, ring, costs), worst_ring(works, sender, costs), is_loss_shares(works, sender, ring, thing), "
+        "is_loss_tariff(works, sender, ring, costs, thing)"
+    ),
+    "thrower": (
+        "throwing_plan(works, sender, ring, costs), thrower_rooms(works, sender, costs), "
+        "is_throwing_plan(works, sender, ring, thing)"
+    ),
+    "factor": "ring_factor(works, sender, ring), least_factor(works, sender), factor_tariff(works, sender, ring)",
+    "parts": (
+        "is_bringer(sender), is_breaker(sender), bringer_of(sender), breaker_of(sender), either(one, other), "
+        "without_arrows(sender, indexes)"
+    ),
+    "side": (
+        "beside(senders), places_at(senders, place), arrows_at(senders, index), holds_apart(works, bringer, breakers), "
+        "is_tariff_beside(works, bringer, breakers, thing), tariff_beside(works, bringer, breakers), "
+        "least_share(works, breaker, name), greatest_rate(works, bringer, name)"
+    ),
+    "promises": (
+        "at_most_broken(works, name, broken, window), at_most_come(works, name, many, window), "
+        "most_broken(works, breaker, name, window), most_come(works, bringer, name, window)"
+    ),
+    "piles": (
+        "pile_run(works, sender, order, rooms), order_rooms(works, sender, order, most), order_keeps(works, sender, order, rooms), "
+        "order_positions(works, sender, order, rooms), good_orders(works, sender, rooms)"
+    ),
+    "apart": (
+        "is_apart(works), touching_recipes(works), lots_of(works), at_once_play(works, sender, run), at_once(works, heaps, crew), "
+        "least_heaps(works, sender, run)"
+    ),
 }
 ERRORS = (
     "Broken(duty), CannotBeDone(index), Gains(ring, tariff), NeverHelps(ring, tariff), NoArrow(index), NoCommand(), NoDuty(duty), "
@@ -65,6 +105,12 @@ ERRORS = (
 METHODS = {
     ("store", "Heaps"): "__init__(works), beat(amounts, crew, deeds), heaps(), beats(), log(), back(), again(), twin()",
     ("tracker", "Tracker"): "__init__(works, sender), beat(index), heaps(), log(), stands_at(), twin()",
+    ("thrower", "Thrower"): "__init__(works, sender, costs), beat(index), heaps(), log(), stands_at(), paid(), twin()",
+    ("book", "Book"): (
+        "__init__(works), send(name, sender), drop(name), free(index), take(index), works(), owe(duty), add(recipe), senders(), "
+        "duties(), held(), is_kept(duty), back(), again(), twin(), __eq__(other)"
+    ),
+    ("desk", "Desk"): "__init__(text), execute(line), book()",
 }
 
 
