@@ -4,7 +4,11 @@ import copy
 import random
 
 from neverheaps import errors
+from neverheaps.book import Book
+from neverheaps.desk import Desk
 from neverheaps.store import Heaps
+from neverheaps.thrower import Thrower
+from neverheaps.tracker import Tracker
 
 # The works and the sender of the document's examples.
 WORKS = (("a", "b", "c"), ("h",), (((2, 0, 0), (0, 1, 0), "h"), ((0, 1, 1), (0, 0, 0), None)))
@@ -52,9 +56,18 @@ def deep(levels):
     return thing
 
 
+def own_values():
+    """Objects of the package, as values."""
+    book = Book(WORKS)
+    return [
+        book, [book], (book, book), {"a": book}, Desk("kinds a\nhands"), Heaps(BARE), errors.Broken(book), Tracker(BARE, (1, ())),
+        Thrower(BARE, (1, ()), (1,)),
+    ]
+
+
 def any_values():
     """Values of all the kinds that [4] names."""
-    return [
+    return own_values() + [
         None, True, False, 0, 1, -1, 2, 10 ** 39, -(10 ** 39), "", "a", "h", "to", "a b\n# c~", "x" * 12000,
         [], (), {}, [0], (0,), (1, 1), (0, 1), ((),), ([],), ({},), (None, None), (True, False), {0: 1}, {"a": (1, [2])},
         {(0, (0,)): ((0, ()),)}, deep(18), tuple([0] * 2900), [("a",)] * 1000, WORKS, list(WORKS), SENDER, ("a", "h"),

@@ -5,14 +5,10 @@ import unittest
 
 from neverheaps import errors
 from neverheaps.book import Book
-from neverheaps.desk import Desk
 from neverheaps.errors import Broken, NoDuty, NoIndex, NoName, Nothing, TooMany, Wrong
 from neverheaps.factor import least_factor
 from neverheaps.held import holds
-from neverheaps.store import Heaps
 from neverheaps.tables import are_enough
-from neverheaps.thrower import Thrower
-from neverheaps.tracker import Tracker
 from tests.samples import BARE, FULL, MANY, SENDER, WORKS, any_values, circle, otherwise, random_recipe, seeded
 from tests.test_held import weak_sender
 
@@ -24,12 +20,6 @@ STATE = ("works", "senders", "duties", "held")
 
 def state(book):
     return tuple(getattr(book, name)() for name in STATE)
-
-
-def own_values():
-    """Objects of the package, as values."""
-    book = Book(TWO)
-    return [book, [book], (book, book), {"a": book}, Desk("kinds a\nhands"), Heaps(BARE), Broken(book), Tracker(BARE, (1, ())), Thrower(BARE, (1, ()), (1,))]
 
 
 class Model:
@@ -147,21 +137,21 @@ class BookTest(BookCase):
             self.refused(book, Nothing, {}, "again")
 
     def test_wrong(self):
-        for thing in list(otherwise(TWO)) + own_values() + [value for value in any_values() if value not in (WORKS, (("a",), ("h",), ()))]:
+        for thing in list(otherwise(TWO)) + [value for value in any_values() if value not in (WORKS, (("a",), ("h",), ()))]:
             with self.assertRaises(Wrong) as caught:
                 Book(thing)
             self.assertEqual(caught.exception.place, 0)
         book = self.book(TWO, [("s", LOOP)], [("hold", "s")])
-        for name in ["", "A", "abcdefg", "s ", "s\n", None, True, 0, ("s",), ["s"]] + own_values() + any_values():
+        for name in ["", "A", "abcdefg", "s ", "s\n", None, True, 0, ("s",), ["s"]] + any_values():
             if name not in ("a", "h", "to"):
                 self.refused(book, Wrong, {"place": 0}, "send", name, LOOP)
                 self.refused(book, Wrong, {"place": 0}, "send", name, None)
-        for sender in list(otherwise(LOOP)) + own_values() + any_values():
+        for sender in list(otherwise(LOOP)) + any_values():
             self.refused(book, Wrong, {"place": 1}, "send", "s", sender)
             self.refused(book, Wrong, {"place": 1}, "send", "new", sender)
         # Ahead of what breaks a duty.
         self.refused(book, Wrong, {"place": 1}, "send", "s", (1, ((0, 0, (9, 0), (1, 1)),)))
-        for recipe in list(otherwise(WORK_A)) + own_values() + any_values():
+        for recipe in list(otherwise(WORK_A)) + any_values():
             self.refused(book, Wrong, {"place": 0}, "add", recipe)
         for recipe in (((0, 0), (0, 1), "h"), ((0, 1), (1, 0), "h"), ((1, 0), (1, 0), None), ((1, 0), (0, 0), "k"), ((1, 0), (0, 0))):
             self.refused(book, Wrong, {"place": 0}, "add", recipe)
@@ -201,7 +191,7 @@ class BookTest(BookCase):
     def test_drop(self):
         duties = [("hold", "t"), ("rooms", "s", (1, 0)), ("hold", "s")]
         book = self.book(TWO, [("s", LOOP), ("t", LOOP), ("u", (2, ()))], duties)
-        for name in ["x", "", "S", None, True, 0, ["s"], ("s",), {"s": 1}] + own_values() + any_values():
+        for name in ["x", "", "S", None, True, 0, ["s"], ("s",), {"s": 1}] + any_values():
             self.refused(book, NoName, {"name": name}, "drop", name)
         self.refused(book, Broken, {"duty": duties[1]}, "drop", "s")
         self.refused(book, Broken, {"duty": duties[0]}, "drop", "t")
@@ -241,7 +231,7 @@ class BookTest(BookCase):
                   ("factor", "s", (1,)), ("factor", "s", 1), ("factor", "s", (1, 1), ()), ("factor", "s", [1, 1]), ("factor", "s", (True, 1)),
                   ["hold", "s"], "hold s", ("s", "hold"), ("hold", ("s",)), (("hold",), "s"), ("hold", 0), (0, "s"), None, True]
         things += [thing for duty in (("hold", "s"), ("rooms", "s", (0, 0)), ("factor", "s", (1, 1))) for thing in otherwise(duty)]
-        for thing in things + own_values() + any_values():
+        for thing in things + any_values():
             self.refused(book, NoDuty, {"duty": thing}, "owe", thing)
         # Rooms are those of this works.
         self.refused(self.book(BARE, [("s", (1, ()))]), NoDuty, {"duty": ("rooms", "s", (0, 0))}, "owe", ("rooms", "s", (0, 0)))
@@ -249,7 +239,7 @@ class BookTest(BookCase):
     def test_free(self):
         duties = [("hold", "s"), ("rooms", "s", (0, 0)), ("factor", "s", (1, 1))]
         book = self.book(TWO, [("s", LOOP)], duties)
-        for index in [3, -1, True, False, None, "0", (0,), [0], 10 ** 39] + own_values() + any_values():
+        for index in [3, -1, True, False, None, "0", (0,), [0], 10 ** 39] + any_values():
             if type(index) is not int or not 0 <= index < 3:
                 self.refused(book, NoIndex, {"index": index}, "free", index)
         self.assertEqual([book.free(1), book.duties(), book.free(1), book.free(0), book.duties()],
@@ -268,7 +258,7 @@ class BookTest(BookCase):
     def test_take(self):
         duties = [("factor", "t", (1, 1)), ("hold", "s"), ("rooms", "s", (0, 0))]
         book = self.book(TWO, [("s", LOOP), ("t", (1, ((0, 0, (0, 1), (1,)),)))], duties)
-        for index in [2, -1, True, False, None, "0", (0,), [0], 10 ** 39] + own_values() + any_values():
+        for index in [2, -1, True, False, None, "0", (0,), [0], 10 ** 39] + any_values():
             if type(index) is not int or not 0 <= index < 2:
                 self.refused(book, NoIndex, {"index": index}, "take", index)
         self.refused(book, Broken, {"duty": duties[1]}, "take", 0)
@@ -442,7 +432,7 @@ class ChangesTest(BookCase):
         self.assertFalse(book == same)
         self.assertFalse(Book(TWO) == Book((TWO[0], TWO[1], TWO[2][::-1])))
         self.assertTrue(Book(TWO) == Book(TWO))
-        for thing in any_values() + own_values()[1:] + [TWO, (TWO, {}, ()), state(book)]:
+        for thing in any_values() + [TWO, (TWO, {}, ()), state(book)]:
             self.assertIs(book == thing, False)
             self.assertIs(thing == book, False)
             self.assertIs(book != thing, True)

@@ -9,7 +9,6 @@ from neverheaps.errors import HeapError, NoCommand, NoName, NoText, Wrong
 from neverheaps.reader import read_sender, read_works
 from neverheaps.texts import show_sender, show_works
 from tests.samples import FULL, SENDER, WORDY, WORKS, any_values, random_recipe, random_sender, random_works, seeded
-from tests.test_book import own_values
 
 TEXT = "kinds a b\nhands h\nrecipe 1 a to by h"
 
@@ -57,7 +56,7 @@ class DeskTest(unittest.TestCase):
 
     def test_wrong(self):
         desk = self.desk()
-        for thing in own_values() + any_values() + [b"works", ["works"], 7, None, True]:
+        for thing in any_values() + [b"works", ["works"], 7, None, True]:
             if not isinstance(thing, str):
                 with self.assertRaises(Wrong) as caught:
                     Desk(thing)
