@@ -20,7 +20,7 @@ def _parts(line):
 
 def _last_name(line):
     """The name that ends a line."""
-    name = line.name()
+    name = line.one_name()
     line.end()
     return name
 
@@ -34,7 +34,7 @@ def _last_number(line):
 
 def _send(book, line):
     """Put a sender under a name."""
-    name = line.name()
+    name = line.one_name()
     line.keyword("=")
     book.send(name, sender_in(book.works(), _parts(line)))
 
@@ -46,7 +46,7 @@ def _drop(book, line):
 
 def _owe(book, line):
     """Put a duty behind all others."""
-    word, name, numbers = line.word(), line.name(), line.numbers()
+    word, name, numbers = line.word(), line.one_name(), line.numbers()
     duty = (word, name, numbers) if numbers else (word, name)
     line.check(is_duty(book.works(), duty))
     book.owe(duty)

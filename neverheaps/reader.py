@@ -58,7 +58,7 @@ class Line:
             found.append(self.number())
         return tuple(found)
 
-    def name(self):
+    def one_name(self):
         """Read a name."""
         word = self.word()
         self.check(is_name(word))
@@ -68,7 +68,7 @@ class Line:
         """Read all words that are left: different names."""
         found = []
         while not self.is_read():
-            name = self.name()
+            name = self.one_name()
             self.check(name not in found)
             found.append(name)
         return tuple(found)

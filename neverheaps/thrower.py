@@ -3,10 +3,10 @@
 from neverheaps.bounds import rooms_by
 from neverheaps.exact import dot, made_whole
 from neverheaps.forms import is_amounts
-from neverheaps.late import Late
 from neverheaps.loss import loss_shares
 from neverheaps.plans import given_to_arrows, is_plan_with
 from neverheaps.rings import rings_of
+from neverheaps.tracker import Late
 
 
 def throwing_plan(works, sender, ring, costs):

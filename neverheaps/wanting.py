@@ -3,7 +3,7 @@
 from neverheaps.against import first_too_great
 from neverheaps.errors import TooMany
 from neverheaps.held import holds
-from neverheaps.lots import least_lots_of
+from neverheaps.needless import least_lots_of
 from neverheaps.parts import without_arrows
 from neverheaps.rings import come_to, rings_of, sum_of
 
