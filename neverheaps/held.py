@@ -14,7 +14,10 @@ def _gains_somewhere(sender, tariff):
 
 def holds(works, sender):
     """Whether the works holds the sender."""
-    return not any([_gains_somewhere(sender, tariff) for tariff in book_of(works)])
+    for tariff in book_of(works):
+        if _gains_somewhere(sender, tariff):
+            return False
+    return True
 
 
 def why_not(works, sender):

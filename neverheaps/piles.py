@@ -61,6 +61,11 @@ class Walk:
                 self._steps.append((at, index))
 
 
+    def waiting(self):
+        """The couples of recipes of which, on this walk, the other one perhaps had to wait for the one."""
+        return self._worker.waiting()
+
+
 def pile_run(works, sender, order, rooms):
     """The shortest, least run behind which some heap is above its room; None if the order keeps the rooms."""
     return Walk(works, sender, order, rooms).run
@@ -90,9 +95,24 @@ def order_rooms(works, sender, order, most):
     return needed
 
 
+def _stands_so(order, couples):
+    """Whether in the order the one recipe of each couple stands ahead of the other one."""
+    return all([order.index(one) < order.index(other) for one, other in couples])
+
+
 def good_orders(works, sender, rooms):
     """The ascending list of all orders that keep the rooms."""
     many = len(works[2])
     if many > MOST_ORDERED:
         raise TooMany(MOST_ORDERED)
-    return [order for order in permutations(range(many)) if order_keeps(works, sender, order, rooms)]
+    found, walked = [], []
+    for order in permutations(range(many)):
+        # Many orders walk alike, so one walk tells of all of them.
+        told = [is_good for couples, is_good in walked if _stands_so(order, couples)]
+        if not told:
+            walk = Walk(works, sender, order, rooms)
+            told = [walk.run is None]
+            walked.append((walk.waiting(), told[0]))
+        if told[0]:
+            found.append(order)
+    return found

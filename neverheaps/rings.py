@@ -20,31 +20,40 @@ def turned(sender, arrows):
     return arrows[first:] + arrows[:first]
 
 
-def _leading_back(sender, start, passed):
+def _sources_into(sender):
+    """For each place to which arrows lead the list of their sources."""
+    sources = {}
+    for source, target, _, _ in sender[1]:
+        sources.setdefault(target, []).append(source)
+    return sources
+
+
+def _leading_back(sources, start, passed):
     """The dict of the places that lead to the start by places above it that are not passed."""
     back = {start: True}
-    grows = True
-    while grows:
-        grows = False
-        for source, target, _, _ in sender[1]:
-            if target in back and source not in back and source > start and source not in passed:
+    left = [start]
+    while left:
+        place = left.pop()
+        for source in sources.get(place, []):
+            if source > start and source not in back and source not in passed:
                 back[source] = True
-                grows = True
+                left.append(source)
     return back
 
 
 def _rings_from(sender, start, most):
     """The rings whose least place is the start; if there are more than most, some more than most."""
+    sources = _sources_into(sender)
     found, paths = [], [()]
     while paths and len(found) <= most:
         path = paths.pop()
-        places = [start] + [sender[1][index][1] for index in path]
+        last = sender[1][path[-1]][1] if path else start
         # Each path that is kept leads to a ring: so no time is lost in paths that lead to none.
-        back = _leading_back(sender, start, places)
+        back = _leading_back(sources, start, {sender[1][index][1]: True for index in path})
         for index, (source, target, _, _) in enumerate(sender[1]):
-            if source == places[-1] and target == start:
+            if source == last and target == start:
                 found.append(path + (index,))
-            elif source == places[-1] and target in back:
+            elif source == last and target in back:
                 paths.append(path + (index,))
     return found
 

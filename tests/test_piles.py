@@ -265,6 +265,31 @@ class OrdersTest(unittest.TestCase):
             seen["none" if not told else "all" if len(told) == every else "some"] += 1
         self.assertGreater(min(seen.values()), 5, seen)
 
+    def test_six_recipes(self):
+        # Some feed others, some go by the same hand, some take of one kind, some are nothing to each other.
+        rng = seeded(4506)
+        seen = {"some": 0, "all or none": 0}
+        while min(seen.values()) < 3:
+            works = random_works(rng, kinds=3, hands=2, recipes=6, most=1)
+            sender = weak_sender(rng, works, 2, 3)
+            told = asked(self, good_orders, works, sender, (1, 1, 2))
+            every = list(itertools.permutations(range(6)))
+            self.assertEqual(told, [order for order in every if order_keeps(works, sender, order, (1, 1, 2))])
+            seen["some" if 0 < len(told) < 720 else "all or none"] += 1
+
+    def test_many_positions(self):
+        # Nothing is ever done, or all there is, for each order alike.
+        stuck = (("a", "b"), ("h",), tuple(((one, other), (0, 0), "h") for one, other in ((1, 0), (0, 1), (2, 1), (1, 1), (0, 3), (4, 4))))
+        sender = (1, ((0, 0, (1, 0), (0,)), (0, 0, (0, 1), (0,))))
+        self.assertEqual(asked(self, good_orders, stuck, sender, (140, 140)), [])
+        self.assertEqual(pile_run(stuck, sender, (5, 4, 3, 2, 1, 0), (140, 140)), (0,) * 141)
+        fours = tuple((tuple(4 * int(at == kind) for at in range(5)), (0,) * 5, None) for kind in range(5))
+        works = (("a", "b", "c", "d", "e"), (), fours)
+        ring = (10, tuple((at, (at + 1) % 10, tuple(int(at % 5 == kind) for kind in range(5)), ()) for at in range(10))
+                + tuple((at, at, tuple(3 * int(at % 5 == kind) for kind in range(5)), ()) for at in range(10)))
+        self.assertEqual(good_orders(works, ring, (3,) * 5), list(itertools.permutations(range(5))))
+        self.assertEqual(len(order_positions(works, ring, (0, 1, 2, 3, 4), (3,) * 5)), 10 * 4 ** 5)
+
     def test_too_many(self):
         seven = (HAND[0], HAND[1], HAND[2] * 7)
         self.assertEqual(asked(self, good_orders, seven, (1, ()), (0,)), (TooMany, {"most": 6}))
