@@ -193,6 +193,14 @@ class JudgedTest(unittest.TestCase):
         ):
             self.assertIs(asked(self, is_loss_tariff, LOSING, LOOP, (0,), (5, 1), thing), fits, thing)
         self.assertIs(is_loss_tariff(HAND, (1, ((0, 0, (2,), (1,)),)), (0,), (3,), (1, ((3,), (3,)))), True)
+        # By a scale of 0 and a price below 0 nothing is gained, which proves nothing.
+        bare = (("a", "b"), ("h",), (((1, 0), (0, 0), "h"),))
+        loop = (1, ((0, 0, (2, 0), (1,)),))
+        for scale in (0, -1, -7):
+            for price in (0, -1, -3, -21):
+                self.assertIs(is_loss_tariff(bare, loop, (0,), (3, 0), (scale, ((0, price), (0,)))), False)
+                self.assertIs(is_loss_tariff(bare, loop, (0,), (3, 0), (scale, ((price, price), (0,)))), False)
+        self.assertIs(is_loss_tariff(bare, loop, (0,), (3, 0), (1, ((3, -1), (3,)))), True)
         # A price above its cost, by which the gain would be just so much.
         self.assertIs(is_loss_tariff(HAND, (1, ((0, 0, (2,), (0,)),)), (0,), (3,), (1, ((3,), (9,)))), True)
         self.assertIs(is_loss_tariff(HAND, (1, ((0, 0, (2,), (1,)),)), (0,), (3,), (2, ((6,), (6,)))), True)

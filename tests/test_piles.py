@@ -265,6 +265,31 @@ class OrdersTest(unittest.TestCase):
             seen["none" if not told else "all" if len(told) == every else "some"] += 1
         self.assertGreater(min(seen.values()), 5, seen)
 
+    def test_what_makes_orders_unlike(self):
+        # One beat alone, for which the order counts: by a hand, by a kind, by what is fed, by what is fed on the way.
+        hand = (("a", "b"), ("h",), (((1, 0), (0, 0), "h"), ((0, 1), (0, 0), "h")))
+        once = (2, ((0, 1, (1, 1), (1,)),))
+        self.assertEqual([self.check(hand, once, (0, 1)), self.check(hand, once, (1, 0))], [[(0, 1)], [(1, 0)]])
+        free = (2, ((0, 1, (1, 1), ()),))
+        self.assertEqual([self.check(CHOICE, free, (0, 1)), self.check(CHOICE, free, (0, 0))], [[(0, 1), (1, 0)], [(1, 0)]])
+        feed, out, make = ((1, 0, 0), (0, 0, 1), None), ((0, 0, 1), (0, 0, 0), "h"), ((0, 1, 0), (0, 0, 0), "h")
+        once = (2, ((0, 1, (1, 1, 0), (1,)),))
+        for recipes, good in (((out, feed, make), [(0, 1, 2), (1, 0, 2)]), ((out, make, feed), [(0, 2, 1), (2, 0, 1)]),
+                              ((make, out, feed), [(1, 2, 0), (2, 1, 0)])):
+            self.assertEqual(self.check((("a", "b", "c"), ("h",), recipes), once, (0, 1, 0)), good)
+        both = (("a", "b"), (), (((1, 0), (0, 1), None), ((1, 1), (0, 0), None)))
+        self.assertEqual(self.check(both, (2, ((0, 1, (2, 0), ()),)), (0, 0)), [(1, 0)])
+
+    def test_many_beats_alone(self):
+        rng = seeded(4507)
+        some = 0
+        for _ in range(400):
+            works = random_works(rng, kinds=rng.randint(2, 4), hands=rng.randint(0, 2), recipes=rng.randint(2, 4), most=rng.choice((1, 1, 2)))
+            amounts, crew = [tuple(rng.randint(0, most) for _ in part) for part, most in ((works[0], 4), (works[1], 2))]
+            told = self.check(works, (2, ((0, 1, amounts, crew),)), tuple(rng.randint(0, 3) for _ in works[0]))
+            some += 0 < len(told) < len(list(itertools.permutations(works[2])))
+        self.assertGreater(some, 40)
+
     def test_six_recipes(self):
         # Some feed others, some go by the same hand, some take of one kind, some are nothing to each other.
         rng = seeded(4506)

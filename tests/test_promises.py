@@ -9,7 +9,7 @@ from neverheaps.forms import is_sender
 from neverheaps.parts import breaker_of, bringer_of, is_breaker, is_bringer
 from neverheaps.promises import at_most_broken, at_most_come, most_broken, most_come
 from neverheaps.side import greatest_rate, holds_apart, least_share
-from tests.samples import FULL, WORKS, any_values, asked, random_works, seeded
+from tests.samples import BARE, FULL, WORKS, any_values, asked, random_works, seeded
 from tests.slow import runs, steps
 from tests.test_held import weak_sender
 
@@ -56,7 +56,7 @@ class PromisesTest(unittest.TestCase):
         self.assertEqual(at_most_come(HAND, "a", 1, 2)[1][1], (0, 1, (1,), (0,)))
 
     def test_all_breakers(self):
-        for works, name in ((HAND, "h"), (TWO, "k")):
+        for works, name in ((HAND, "h"), (TWO, "k"), (WORKS, "h"), (FULL, "j")):
             for window in range(1, 9):
                 for broken in range(window + 1):
                     breaker = asked(self, at_most_broken, works, name, broken, window)
@@ -68,7 +68,7 @@ class PromisesTest(unittest.TestCase):
 
     def test_all_bringers(self):
         told = 0
-        for works, name in ((HAND, "a"), (TWO, "b")):
+        for works, name in ((HAND, "a"), (TWO, "b"), (WORKS, "c"), (FULL, "d"), (BARE, "a")):
             for window in range(1, 9):
                 for many in range(10):
                     count = math.comb(window - 1 + many, many)
