@@ -60,7 +60,6 @@ class Walk:
                 self.positions.append((target, lying))
                 self._steps.append((at, index))
 
-
     def waiting(self):
         """The couples of recipes of which, on this walk, the other one perhaps had to wait for the one."""
         return self._worker.waiting()
